@@ -1,0 +1,262 @@
+package tests
+
+import (
+	"bytes"
+	"testing"
+
+	"loop.example/g00041/impl"
+)
+
+// roomy is b in memory of its own with spare room behind it, and all of that memory.
+func roomy(b []byte) ([]byte, []byte) {
+	all := bytes.Repeat([]byte{170}, len(b)+40)
+	copy(all, b)
+	return all[:len(b)], all
+}
+
+// spoil turns every byte of a list and of the spare room behind it.
+func spoil(b []byte) {
+	b = b[:cap(b)]
+	for i := range b {
+		b[i] ^= 255
+	}
+}
+
+// bytesCall holds one call of a byte list against promise 26: the same answer twice, the
+// argument and the room behind it as they were, no memory shared either way.
+func bytesCall(t *testing.T, name string, arg []byte, call func([]byte) []byte) {
+	t.Helper()
+	in, all := roomy(arg)
+	before := bytes.Clone(all)
+	first := call(in)
+	want := bytes.Clone(first)
+	if second := call(in); !bytes.Equal(first, second) {
+		t.Error(name, arg, "answers unlike", first, second)
+	}
+	if !bytes.Equal(all, before) {
+		t.Error(name, arg, "wrote into its argument")
+	}
+	spoil(first)
+	if !bytes.Equal(all, before) {
+		t.Error(name, arg, "answers memory of its argument")
+	}
+	again := call(in)
+	if !bytes.Equal(again, want) {
+		t.Error(name, arg, "answers memory that it keeps")
+	}
+	spoil(all)
+	if !bytes.Equal(again, want) {
+		t.Error(name, arg, "keeps to its argument's memory")
+	}
+}
+
+func TestBytesStayAsTheyWere(t *testing.T) {
+	rows := [][]byte{{}, {5}, {129, 0}, {128}, {4, 1, 9}, {48, 128, 4, 1, 7, 0, 0}, {48, 128, 31, 128, 5, 129, 1, 7, 0, 0}, {48, 3, 2, 1, 5}, {4, 0, 1}}
+	for _, row := range rows {
+		bytesCall(t, "Xor over nothing", row, func(b []byte) []byte { return impl.Xor(b, nil) })
+		bytesCall(t, "Xor over", row, func(b []byte) []byte { return impl.Xor(b, []byte{1, 2}) })
+		bytesCall(t, "Xor under", row, func(b []byte) []byte { return impl.Xor([]byte{1, 2, 3}, b) })
+		bytesCall(t, "Xor of itself", row, func(b []byte) []byte { return impl.Xor(b, b) })
+		bytesCall(t, "HexText", row, func(b []byte) []byte { return []byte(impl.HexText(b)) })
+		bytesCall(t, "Hash", row, func(b []byte) []byte { return impl.PutNum(int64(impl.Hash(b) >> 1)) })
+		bytesCall(t, "Canon", row, func(b []byte) []byte { c, _, _ := impl.Canon(b); return c })
+		bytesCall(t, "ItemBytes", row, func(b []byte) []byte { c, _ := impl.ItemBytes(impl.Item{Tag: 4, Body: b}); return c })
+		bytesCall(t, "Walk", row, func(b []byte) []byte { x, _ := impl.Walk(impl.Item{Tag: 4, Body: b}, nil); return x.Body })
+		bytesCall(t, "GetNum", row, func(b []byte) []byte {
+			n, at, code := impl.GetNum(b, 0)
+			return append(impl.PutNum(n), impl.PutNum(1000*at+code)...)
+		})
+		bytesCall(t, "ReadItem", row, func(b []byte) []byte {
+			x, code, place := impl.ReadItem(b, true)
+			return append(everyBody(x), byte(code), byte(place))
+		})
+	}
+}
+
+func everyBody(x impl.Item) []byte {
+	out := bytes.Clone(x.Body)
+	for _, kid := range x.Kids {
+		out = append(out, everyBody(kid)...)
+	}
+	return out
+}
+
+func TestAnswersAreNewEachTime(t *testing.T) {
+	for _, n := range []int64{-1, 0, 127, 128, 1 << 40} {
+		a := impl.PutNum(n)
+		want := bytes.Clone(a)
+		spoil(a)
+		if b := impl.PutNum(n); !bytes.Equal(b, want) {
+			t.Error("PutNum", n, b)
+		}
+	}
+	a, _ := impl.HexRead("00ff")
+	spoil(a)
+	if b, ok := impl.HexRead("00ff"); !ok || !bytes.Equal(b, []byte{0, 255}) {
+		t.Error("HexRead", b, ok)
+	}
+}
+
+func TestPartsStayAsTheyWere(t *testing.T) {
+	one, oneAll := roomy([]byte{1, 2})
+	two, twoAll := roomy(nil)
+	parts := [][]byte{one, two, one}[:2]
+	was := impl.HashAll(parts)
+	if impl.HashAll(parts) != was {
+		t.Error("two answers")
+	}
+	_, freshOne := roomy([]byte{1, 2})
+	_, freshTwo := roomy(nil)
+	if !bytes.Equal(oneAll, freshOne) || !bytes.Equal(twoAll, freshTwo) || !bytes.Equal(parts[:3][2], []byte{1, 2}) || len(parts[1]) != 0 {
+		t.Error("HashAll wrote into its parts")
+	}
+}
+
+// roomyItem is an item whose lists all have spare room, with something told in it.
+func roomyItem() impl.Item {
+	mark := impl.Item{Class: 3, Tag: 77}
+	body, _ := roomy([]byte{5, 6, 7})
+	inner := []impl.Item{{Tag: 2, Body: body}, mark, mark}[:1]
+	kids := []impl.Item{{Tag: 17, Cons: true, Kids: inner}, {Tag: 1}, mark}[:2]
+	return impl.Item{Tag: 16, Cons: true, Kids: kids}
+}
+
+// roomySame tells whether x is as roomyItem made it, the spare room too.
+func roomySame(x impl.Item) bool {
+	y := roomyItem()
+	in, was := x.Kids[0].Kids, y.Kids[0].Kids
+	for i := range was[:3] {
+		if !sameItem(in[:3][i], was[:3][i]) {
+			return false
+		}
+	}
+	body, wasBody := in[0].Body, was[0].Body
+	return sameItem(x, y) && sameItem(x.Kids[:3][2], y.Kids[:3][2]) && bytes.Equal(body[:cap(wasBody)], wasBody[:cap(wasBody)])
+}
+
+func spoilItem(x impl.Item) {
+	spoil(x.Body)
+	for i := range x.Kids {
+		spoilItem(x.Kids[i])
+	}
+	kids := x.Kids[:cap(x.Kids)]
+	for i := range kids {
+		kids[i] = impl.Item{Class: 2, Tag: 99}
+	}
+}
+
+func TestItemsStayAsTheyWere(t *testing.T) {
+	x := roomyItem()
+	calls := []struct {
+		name string
+		call func()
+	}{
+		{"ItemOk", func() { impl.ItemOk(x) }},
+		{"ItemBytes", func() { b, _ := impl.ItemBytes(x); spoil(b) }},
+		{"Walk to itself", func() { y, _ := impl.Walk(x, nil); spoilItem(y) }},
+		{"Walk to a Kid", func() { y, _ := impl.Walk(x, []int64{0}); spoilItem(y) }},
+		{"Walk to a Kid's Kid", func() { y, _ := impl.Walk(x, []int64{0, 0}); spoilItem(y) }},
+		{"Walk too far", func() { impl.Walk(x, []int64{0, 1}) }},
+	}
+	for _, row := range calls {
+		row.call()
+		if !roomySame(x) {
+			t.Fatal(row.name, "changed its argument, or answers its memory")
+		}
+	}
+	path := []int64{0, 0, 9}[:2]
+	if impl.Walk(x, path); path[:3][2] != 9 || path[0] != 0 || path[1] != 0 {
+		t.Error("Walk wrote into the path", path[:3])
+	}
+}
+
+func bodiesOf(x *impl.Item, list []*impl.Item) []*impl.Item {
+	list = append(list, x)
+	for i := range x.Kids {
+		list = bodiesOf(&x.Kids[i], list)
+	}
+	return list
+}
+
+// apart tells whether no list of x shares memory, or spare room, with another list of x.
+func apart(x impl.Item) bool {
+	all := bodiesOf(&x, nil)
+	for i := range all {
+		before := copyItem(x)
+		body := all[i].Body
+		all[i].Body = nil
+		spoil(body)
+		other := copyItem(x)
+		spoil(body)
+		all[i].Body = body
+		other = restored(other, i, body)
+		if !sameItem(before, other) {
+			return false
+		}
+		kids := all[i].Kids
+		_ = append(kids, impl.Item{Tag: 5})
+		if !sameItem(before, x) {
+			return false
+		}
+	}
+	return true
+}
+
+func restored(x impl.Item, i int, body []byte) impl.Item {
+	bodiesOf(&x, nil)[i].Body = body
+	return x
+}
+
+func TestListsOfOneAnswerAreApart(t *testing.T) {
+	b := []byte{48, 128, 4, 2, 1, 2, 4, 2, 3, 4, 48, 6, 4, 0, 4, 2, 5, 6, 48, 4, 2, 0, 2, 0, 0, 0}
+	x, code, place := impl.ReadItem(b, true)
+	if code != 0 {
+		t.Fatal(code, place)
+	}
+	if !apart(x) {
+		t.Error("ReadItem: two lists share memory")
+	}
+	shared := []byte{1, 2}
+	twins := impl.Item{Tag: 16, Cons: true, Kids: []impl.Item{{Tag: 4, Body: shared}, {Tag: 4, Body: shared}}}
+	if apart(twins) {
+		t.Fatal("apart says nothing")
+	}
+	y, ok := impl.Walk(twins, nil)
+	if !ok || !apart(y) {
+		t.Error("Walk: two lists share memory", ok)
+	}
+	kids := []impl.Item{{Tag: 4, Body: shared}}
+	row := impl.Item{Tag: 16, Cons: true, Kids: []impl.Item{{Tag: 16, Cons: true, Kids: kids}, {Tag: 16, Cons: true, Kids: kids}}}
+	z, ok := impl.Walk(row, nil)
+	if !ok {
+		t.Fatal("not right")
+	}
+	z.Kids[0].Kids[0] = impl.Item{Tag: 9}
+	if z.Kids[1].Kids[0].Tag != 4 {
+		t.Error("Walk: two lists of Kids share memory")
+	}
+}
+
+func TestReadItemSharesNothing(t *testing.T) {
+	for _, lax := range []bool{false, true} {
+		in, all := roomy([]byte{48, 9, 4, 2, 1, 2, 48, 3, 4, 1, 7})
+		before := bytes.Clone(all)
+		x, code, place := impl.ReadItem(in, lax)
+		if code != 0 || !bytes.Equal(all, before) {
+			t.Fatal("lax:", lax, code, place, "or it wrote into its argument")
+		}
+		want := copyItem(x)
+		spoil(all)
+		if !sameItem(x, want) {
+			t.Error("lax:", lax, "the item keeps to the argument's memory")
+		}
+		spoil(all)
+		spoilItem(x)
+		if !bytes.Equal(all, before) {
+			t.Error("lax:", lax, "the item is the argument's memory")
+		}
+		if y, code, _ := impl.ReadItem(in, lax); code != 0 || !sameItem(y, want) {
+			t.Error("lax:", lax, "another answer", y, code)
+		}
+	}
+}
