@@ -2,6 +2,7 @@ package tests
 
 import (
 	"bytes"
+	"slices"
 	"testing"
 
 	"loop.example/g00041/impl"
@@ -259,4 +260,193 @@ func TestReadItemSharesNothing(t *testing.T) {
 			t.Error("lax:", lax, "another answer", y, code)
 		}
 	}
+}
+
+// roomySchema is a schema with every kind, whose lists all have spare room, with something told in it.
+func roomySchema() []impl.SType {
+	kids := func(list ...int64) []int64 { return append(list, 7, 7, 7)[:len(list)] }
+	list := []impl.SType{
+		{Kind: impl.SSeq, Ext: true, Kids: kids(1, 2, 3, 4, 5, 6)},
+		{Kind: impl.SInt, Lo: 0, Hi: 9},
+		{Kind: impl.SOpen, Ext: true, Kids: kids(7, 8)},
+		{Kind: impl.SList, Hi: 3, Kids: kids(8)},
+		{Kind: impl.SChoice, Ext: true, Kids: kids(7, 8)},
+		{Kind: impl.SBool, Opt: true},
+		{Kind: impl.SEnum, Hi: 3, Ext: true},
+		{Kind: impl.SText, Hi: 5},
+		{Kind: impl.SBytes, Hi: 5},
+		{Kind: impl.SEnum, Hi: 77},
+		{Kind: impl.SEnum, Hi: 78},
+	}
+	return list[:9]
+}
+
+func roomySchemaSame(list []impl.SType) bool {
+	was := roomySchema()
+	list, was = list[:len(was)+2], was[:len(was)+2]
+	for t := range was {
+		more := len(was[t].Kids) + 3
+		if len(was[t].Kids) > 0 && !slices.Equal(list[t].Kids[:more], was[t].Kids[:more]) {
+			return false
+		}
+	}
+	return sameSchema(list, was)
+}
+
+// roomyVal is a value of roomySchema's first type, with spare room everywhere.
+func roomyVal(number int64) impl.Val {
+	vals := func(list ...impl.Val) []impl.Val { return append(list, impl.Val{N: 77}, impl.Val{N: 78})[:len(list)] }
+	b := func(list ...byte) []byte { in, _ := roomy(list); return in }
+	opened := impl.Val{B: b(4, 1, 9)}
+	if number == 1 {
+		opened = impl.Val{Kids: vals(impl.Val{B: b(1, 2)})}
+	}
+	chosen := impl.Val{N: -1, B: b(130, 1, 5)}
+	if number == 1 {
+		chosen = impl.Val{N: 1, Kids: vals(impl.Val{B: b(3)})}
+	}
+	v := impl.Val{Kids: vals(impl.Val{N: number}, opened, impl.Val{Kids: vals(impl.Val{B: b(7)}, impl.Val{B: b(8)})}, chosen, impl.Val{Out: true}, impl.Val{N: 5})}
+	v.More = [][]byte{b(134, 0), b(135, 1, 7), b(136, 0)}[:2]
+	return v
+}
+
+func roomyValSame(v impl.Val, number int64) bool {
+	was := roomyVal(number)
+	return sameVal(everyPlace(v), everyPlace(was))
+}
+
+// everyPlace is v with what stands in the spare room of its lists.
+func everyPlace(v impl.Val) impl.Val {
+	w := impl.Val{Out: v.Out, N: v.N, B: bytes.Clone(v.B[:cap(v.B)])}
+	for _, kid := range v.Kids[:cap(v.Kids)] {
+		w.Kids = append(w.Kids, everyPlace(kid))
+	}
+	for _, b := range v.More[:cap(v.More)] {
+		w.More = append(w.More, bytes.Clone(b[:cap(b)]))
+	}
+	return w
+}
+
+func spoilVal(v impl.Val) {
+	spoil(v.B)
+	for _, kid := range v.Kids {
+		spoilVal(kid)
+	}
+	for _, b := range v.More {
+		spoil(b)
+	}
+	kids, more := v.Kids[:cap(v.Kids)], v.More[:cap(v.More)]
+	for i := range kids {
+		kids[i] = impl.Val{N: 99}
+	}
+	for i := range more {
+		more[i] = []byte{99}
+	}
+}
+
+func TestSchemasAndValuesStayAsTheyWere(t *testing.T) {
+	list := roomySchema()
+	for _, number := range []int64{1, 5} {
+		v := roomyVal(number)
+		calls := []struct {
+			name string
+			call func()
+		}{
+			{"SchemaOk", func() { impl.SchemaOk(list) }},
+			{"ValOk", func() { impl.ValOk(list, 0, v) }},
+			{"EncVal", func() { b, _ := impl.EncVal(list, 0, v); spoil(b) }},
+			{"EncVal of bytes", func() { b, _ := impl.EncVal(list, 8, v.Kids[2].Kids[0]); spoil(b) }},
+			{"EncVal of a choice", func() { b, _ := impl.EncVal(list, 4, v.Kids[3]); spoil(b) }},
+			{"EncVal of what is none", func() { impl.EncVal(list, 3, v) }},
+			{"DecVal", func() { b, _ := impl.EncVal(list, 0, v); w, _ := impl.DecVal(list, 0, b, true); spoilVal(w) }},
+		}
+		if !impl.ValOk(list, 0, v) {
+			t.Fatal("no value", number)
+		}
+		for _, row := range calls {
+			row.call()
+			if !roomySchemaSame(list) || !roomyValSame(v, number) {
+				t.Fatal(row.name, "changed an argument, or answers its memory")
+			}
+		}
+		first, _ := impl.EncVal(list, 0, v)
+		if second, _ := impl.EncVal(list, 0, v); !bytes.Equal(first, second) {
+			t.Error("EncVal: two answers", first, second)
+		}
+	}
+}
+
+func TestDecValSharesNothing(t *testing.T) {
+	list := roomySchema()
+	for _, number := range []int64{1, 5} {
+		b, _ := impl.EncVal(list, 0, roomyVal(number))
+		for _, lax := range []bool{false, true} {
+			in, all := roomy(b)
+			before := bytes.Clone(all)
+			v, code := impl.DecVal(list, 0, in, lax)
+			if code != 0 || !bytes.Equal(all, before) {
+				t.Fatal(code, "or it wrote into its argument")
+			}
+			want := copyVal(v)
+			spoil(all)
+			if !sameVal(v, want) {
+				t.Error("the value keeps to the argument's memory")
+			}
+			spoil(all)
+			if !valApart(v) {
+				t.Error("two lists of the value share memory")
+			}
+			spoilVal(v)
+			if !bytes.Equal(all, before) || !roomySchemaSame(list) {
+				t.Error("the value is an argument's memory")
+			}
+			if w, code := impl.DecVal(list, 0, in, lax); code != 0 || !sameVal(w, want) {
+				t.Error("another answer", w, code)
+			}
+		}
+	}
+}
+
+// byteLists are all lists of bytes of v.
+func byteLists(v impl.Val) [][]byte {
+	all := append([][]byte{v.B}, v.More...)
+	for _, kid := range v.Kids {
+		all = append(all, byteLists(kid)...)
+	}
+	return all
+}
+
+// valApart tells whether no byte list of v shares memory, or spare room, with another,
+// and no list of Kids has a value's Kids in its spare room.
+func valApart(v impl.Val) bool {
+	all := byteLists(v)
+	for i, b := range all {
+		var before [][]byte
+		for _, other := range all {
+			before = append(before, bytes.Clone(other))
+		}
+		spoil(b)
+		for k, other := range all {
+			if k != i && !bytes.Equal(other, before[k]) {
+				return false
+			}
+		}
+		spoil(b)
+	}
+	return kidsApart(v, v)
+}
+
+func kidsApart(whole impl.Val, v impl.Val) bool {
+	before := copyVal(whole)
+	_ = append(v.Kids, impl.Val{N: 99})
+	_ = append(v.More, []byte{99})
+	if !sameVal(whole, before) {
+		return false
+	}
+	for _, kid := range v.Kids {
+		if !kidsApart(whole, kid) {
+			return false
+		}
+	}
+	return true
 }
