@@ -332,6 +332,7 @@ func checkVals(t *testing.T, rows []valCase) {
 			t.Error(row.name, "got", b, ok, impl.ValOk(row.list, 0, row.v))
 			continue
 		}
+		checkForms(t, row)
 		if !ok {
 			continue
 		}
@@ -339,6 +340,30 @@ func checkVals(t *testing.T, rows []valCase) {
 			if v, code := impl.DecVal(row.list, 0, b, lax); code != 0 || !sameVal(v, row.v) {
 				t.Error(row.name, "read back", v, code)
 			}
+		}
+	}
+}
+
+// checkForms holds a value to its bits and its text, where it has them: either may be too
+// long. What is no value has neither.
+func checkForms(t *testing.T, row valCase) {
+	t.Helper()
+	b, ok := impl.PackVal(row.list, 0, row.v)
+	if ok && !row.ok || !ok && len(b) != 0 {
+		t.Error(row.name, "has bits", b, ok)
+	}
+	if ok {
+		if v, code := impl.UnpackVal(row.list, 0, b); code != 0 || !sameVal(v, row.v) {
+			t.Error(row.name, "read from its bits", v, code)
+		}
+	}
+	text, ok := impl.ShowVal(row.list, 0, row.v)
+	if ok && !row.ok || !ok && text != "" {
+		t.Error(row.name, "has a text", text, ok)
+	}
+	if ok {
+		if v, ok := impl.ReadVal(row.list, 0, text); !ok || !sameVal(v, row.v) {
+			t.Error(row.name, "read from its text", v, ok)
 		}
 	}
 }
@@ -768,16 +793,12 @@ func TestValuesInManyPlacesEndSoon(t *testing.T) {
 	for range impl.MaxLevels - 1 {
 		v = kidsOf(v, v, v, v, v, v, v, v, v, v, v, v, v, v, v, v, v, v, v, v)
 	}
-	if impl.ValOk(list, 0, v) {
-		t.Error("20 to the 7th values")
-	}
+	checkVals(t, []valCase{{"20 to the 7th values", list, v, false}})
 	loop := kidsOf(make([]impl.Val, 200)...)
 	for i := range loop.Kids {
 		loop.Kids[i] = loop
 	}
-	if impl.ValOk(list, 0, loop) {
-		t.Error("a value within itself")
-	}
+	checkVals(t, []valCase{{"a value within itself", list, loop, false}})
 	wide := []impl.SType{listOf(1, 0, 200), listOf(2, 0, 200), withExt(choiceOf(3)), aBool}
 	kept := impl.Val{N: -1, B: keptLong(impl.MaxBytes)}
 	row := kidsOf(make([]impl.Val, 200)...)
@@ -788,9 +809,7 @@ func TestValuesInManyPlacesEndSoon(t *testing.T) {
 	for i := range rows.Kids {
 		rows.Kids[i] = row
 	}
-	if impl.ValOk(wide, 0, rows) {
-		t.Error("long bytes in many places")
-	}
+	checkVals(t, []valCase{{"long bytes in many places", wide, rows, false}})
 }
 
 type decCase struct {

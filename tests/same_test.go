@@ -359,6 +359,16 @@ func TestSchemasAndValuesStayAsTheyWere(t *testing.T) {
 			{"EncVal of a choice", func() { b, _ := impl.EncVal(list, 4, v.Kids[3]); spoil(b) }},
 			{"EncVal of what is none", func() { impl.EncVal(list, 3, v) }},
 			{"DecVal", func() { b, _ := impl.EncVal(list, 0, v); w, _ := impl.DecVal(list, 0, b, true); spoilVal(w) }},
+			{"PackVal", func() { b, _ := impl.PackVal(list, 0, v); spoil(b) }},
+			{"PackVal of bytes", func() { b, _ := impl.PackVal(list, 8, v.Kids[2].Kids[0]); spoil(b) }},
+			{"PackVal of what is none", func() { impl.PackVal(list, 3, v) }},
+			{"UnpackVal", func() { b, _ := impl.PackVal(list, 0, v); w, _ := impl.UnpackVal(list, 0, b); spoilVal(w) }},
+			{"Fewest", func() { impl.Fewest(list, 0) }},
+			{"Most", func() { impl.Most(list, 0) }},
+			{"ShowVal", func() { impl.ShowVal(list, 0, v) }},
+			{"ShowVal of what is none", func() { impl.ShowVal(list, 3, v) }},
+			{"ReadVal", func() { text, _ := impl.ShowVal(list, 0, v); w, _ := impl.ReadVal(list, 0, text); spoilVal(w) }},
+			{"ShowSchema", func() { impl.ShowSchema(list) }},
 		}
 		if !impl.ValOk(list, 0, v) {
 			t.Fatal("no value", number)
@@ -373,37 +383,122 @@ func TestSchemasAndValuesStayAsTheyWere(t *testing.T) {
 		if second, _ := impl.EncVal(list, 0, v); !bytes.Equal(first, second) {
 			t.Error("EncVal: two answers", first, second)
 		}
+		first, _ = impl.PackVal(list, 0, v)
+		if second, _ := impl.PackVal(list, 0, v); !bytes.Equal(first, second) {
+			t.Error("PackVal: two answers", first, second)
+		}
+		shown, _ := impl.ShowVal(list, 0, v)
+		if again, _ := impl.ShowVal(list, 0, v); shown != again {
+			t.Error("ShowVal: two answers", shown, again)
+		}
 	}
 }
 
-func TestDecValSharesNothing(t *testing.T) {
+// readers are the calls that answer a value of roomySchema's first type, with what they
+// read written by the call beside them.
+func readers() []struct {
+	name  string
+	write func([]impl.SType, impl.Val) []byte
+	read  func([]impl.SType, []byte) (impl.Val, bool)
+} {
+	return []struct {
+		name  string
+		write func([]impl.SType, impl.Val) []byte
+		read  func([]impl.SType, []byte) (impl.Val, bool)
+	}{
+		{
+			"DecVal",
+			func(list []impl.SType, v impl.Val) []byte { b, _ := impl.EncVal(list, 0, v); return b },
+			func(list []impl.SType, b []byte) (impl.Val, bool) {
+				v, code := impl.DecVal(list, 0, b, false)
+				return v, code == 0
+			},
+		},
+		{
+			"DecVal, laxly",
+			func(list []impl.SType, v impl.Val) []byte { b, _ := impl.EncVal(list, 0, v); return b },
+			func(list []impl.SType, b []byte) (impl.Val, bool) {
+				v, code := impl.DecVal(list, 0, b, true)
+				return v, code == 0
+			},
+		},
+		{
+			"UnpackVal",
+			func(list []impl.SType, v impl.Val) []byte { b, _ := impl.PackVal(list, 0, v); return b },
+			func(list []impl.SType, b []byte) (impl.Val, bool) {
+				v, code := impl.UnpackVal(list, 0, b)
+				return v, code == 0
+			},
+		},
+		{
+			"ReadVal",
+			func(list []impl.SType, v impl.Val) []byte { text, _ := impl.ShowVal(list, 0, v); return []byte(text) },
+			func(list []impl.SType, b []byte) (impl.Val, bool) { return impl.ReadVal(list, 0, string(b)) },
+		},
+	}
+}
+
+func TestValuesThatAreReadShareNothing(t *testing.T) {
 	list := roomySchema()
-	for _, number := range []int64{1, 5} {
-		b, _ := impl.EncVal(list, 0, roomyVal(number))
-		for _, lax := range []bool{false, true} {
-			in, all := roomy(b)
+	for _, call := range readers() {
+		for _, number := range []int64{1, 5} {
+			in, all := roomy(call.write(list, roomyVal(number)))
 			before := bytes.Clone(all)
-			v, code := impl.DecVal(list, 0, in, lax)
-			if code != 0 || !bytes.Equal(all, before) {
-				t.Fatal(code, "or it wrote into its argument")
+			v, ok := call.read(list, in)
+			if !ok || !sameVal(v, roomyVal(number)) || !bytes.Equal(all, before) {
+				t.Fatal(call.name, v, ok, "or it wrote into its argument")
 			}
 			want := copyVal(v)
 			spoil(all)
 			if !sameVal(v, want) {
-				t.Error("the value keeps to the argument's memory")
+				t.Error(call.name, "the value keeps to the argument's memory")
 			}
 			spoil(all)
 			if !valApart(v) {
-				t.Error("two lists of the value share memory")
+				t.Error(call.name, "two lists of the value share memory")
 			}
 			spoilVal(v)
 			if !bytes.Equal(all, before) || !roomySchemaSame(list) {
-				t.Error("the value is an argument's memory")
+				t.Error(call.name, "the value is an argument's memory")
 			}
-			if w, code := impl.DecVal(list, 0, in, lax); code != 0 || !sameVal(w, want) {
-				t.Error("another answer", w, code)
+			if w, ok := call.read(list, in); !ok || !sameVal(w, want) {
+				t.Error(call.name, "another answer", w, ok)
+			}
+			in[0] ^= 255
+			bad := bytes.Clone(all)
+			if call.read(list, in); !bytes.Equal(all, bad) || !roomySchemaSame(list) {
+				t.Error(call.name, "wrote into bytes that are none of a value")
 			}
 		}
+	}
+}
+
+func TestSchemasThatAreReadShareNothing(t *testing.T) {
+	text, ok := impl.ShowSchema(roomySchema())
+	list, read := impl.ReadSchema(text)
+	if !ok || !read || !sameSchema(list, roomySchema()) {
+		t.Fatal(text, ok, list, read)
+	}
+	for i := range list {
+		before := copySchema(list)
+		_ = append(list[i].Kids, 99)
+		kids := list[i].Kids[:cap(list[i].Kids)]
+		was := slices.Clone(kids)
+		for k := range kids {
+			kids[k] = 98
+		}
+		list[i].Kids, before[i].Kids = nil, nil
+		if !sameSchema(list, before) {
+			t.Error("the Kids of", i, "share memory with others")
+		}
+		list[i].Kids = kids[:len(roomySchema()[i].Kids)]
+		copy(kids, was)
+	}
+	for i := range list {
+		list[i] = impl.SType{Kind: 99}
+	}
+	if again, ok := impl.ReadSchema(text); !ok || !sameSchema(again, roomySchema()) {
+		t.Error("another answer", again, ok)
 	}
 }
 
