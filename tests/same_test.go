@@ -545,3 +545,95 @@ func kidsApart(whole impl.Val, v impl.Val) bool {
 	}
 	return true
 }
+
+// roomyName is a name whose Parts have spare room, with something told in it.
+func roomyName(value string) impl.Name {
+	mark := impl.Part{Attr: 77, Value: "mark"}
+	return impl.Name{Parts: []impl.Part{{Attr: 1, Value: value}, {Attr: 2, Value: " B  b "}, mark, mark}[:2]}
+}
+
+// roomyNameSame tells whether n is as roomyName made it, the spare room too.
+func roomyNameSame(n impl.Name, value string) bool {
+	return len(n.Parts) == 2 && slices.Equal(n.Parts[:4], roomyName(value).Parts[:4])
+}
+
+func TestNamesStayAsTheyWere(t *testing.T) {
+	for _, value := range []string{"  A  a ", "", "a\n"} {
+		n, base := roomyName(value), roomyName(value)
+		g := impl.GenName{Kind: impl.GnName, Name: n}
+		other := impl.GenName{Kind: impl.GnName, Name: base}
+		calls := []struct {
+			name string
+			call func() bool
+		}{
+			{"NameOk", func() bool { return impl.NameOk(n) }},
+			{"SameName", func() bool { return impl.SameName(n, base) }},
+			{"SameName of itself", func() bool { return impl.SameName(n, n) }},
+			{"Under", func() bool { return impl.Under(n, base) }},
+			{"Under a part of itself", func() bool { return impl.Under(n, impl.Name{Parts: n.Parts[:1]}) }},
+			{"GenOk", func() bool { return impl.GenOk(g) }},
+			{"BaseOk", func() bool { return impl.BaseOk(g) }},
+			{"Within", func() bool { return impl.Within(g, other) }},
+			{"Within itself", func() bool { return impl.Within(g, g) }},
+		}
+		for _, row := range calls {
+			if row.call() != row.call() {
+				t.Error(row.name, "answers unlike")
+			}
+			if !roomyNameSame(n, value) || !roomyNameSame(base, value) {
+				t.Fatal(row.name, "changed its argument")
+			}
+		}
+	}
+}
+
+func TestTextsOfNamesAndTimesAreTheSameEachTime(t *testing.T) {
+	for _, text := range []string{"", " A  b ", "a.b", "*.a.b", "u@a.b", "1970-01-02 00:00:00"} {
+		readOne, okOne := impl.TimeRead(text)
+		readTwo, okTwo := impl.TimeRead(text)
+		if readOne != readTwo || okOne != okTwo {
+			t.Error("TimeRead", text)
+		}
+		if impl.Fold(text) != impl.Fold(text) || impl.HostOk(text, true) != impl.HostOk(text, true) || impl.HostMatch(text, "x.a.b") != impl.HostMatch(text, "x.a.b") {
+			t.Error("two answers of", text)
+		}
+	}
+	for _, n := range []int64{-1, 0, 951782400, impl.MaxTime, impl.MaxTime + 1} {
+		textOne, okOne := impl.TimeText(n)
+		textTwo, okTwo := impl.TimeText(n)
+		if textOne != textTwo || okOne != okTwo {
+			t.Error("TimeText", n)
+		}
+	}
+}
+
+func TestOidsStayAsTheyWere(t *testing.T) {
+	for _, row := range [][]byte{{}, {42}, {42, 134, 72}, {136, 56, 1, 2}, {42, 128}, make([]byte, 30)} {
+		bytesCall(t, "OidRead", row, func(b []byte) []byte {
+			arcs, ok := impl.OidRead(b)
+			out := []byte{byte(len(arcs)), 0}
+			if ok {
+				out[1] = 1
+			}
+			return append(out, numbers(arcs...)...)
+		})
+	}
+	for _, row := range [][]int64{{1, 2, 840, 99, 98}, {2, 1000, 0, 99, 98}, {1, 40, 3, 99, 98}} {
+		was := slices.Clone(row)
+		arcs := row[:3]
+		first, ok := impl.OidBytes(arcs)
+		want := bytes.Clone(first)
+		spoil(first)
+		second, again := impl.OidBytes(arcs)
+		if ok != again || !bytes.Equal(second, want) || !slices.Equal(row, was) {
+			t.Error("OidBytes", was, row, want, second)
+		}
+	}
+	first, _ := impl.OidRead([]byte{42, 134, 72})
+	for i := range first[:cap(first)] {
+		first[:cap(first)][i] = -7
+	}
+	if second, ok := impl.OidRead([]byte{42, 134, 72}); !ok || !slices.Equal(second, []int64{1, 2, 840}) {
+		t.Error("OidRead answers memory that it keeps", second, ok)
+	}
+}
