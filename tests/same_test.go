@@ -637,3 +637,158 @@ func TestOidsStayAsTheyWere(t *testing.T) {
 		t.Error("OidRead answers memory that it keeps", second, ok)
 	}
 }
+
+// roomyList is a list in memory of its own with spare room behind it, and all of that memory.
+func roomyList[T any](list []T, mark T) ([]T, []T) {
+	all := append(slices.Clone(list), mark, mark, mark)
+	return all[:len(list)], all
+}
+
+// digestsAsBytes lays digests out one behind the other, so that answers can be held against each other.
+func digestsAsBytes(list ...uint64) []byte {
+	var out []byte
+	for _, digest := range list {
+		out = append(out, eight(digest)...)
+	}
+	return out
+}
+
+func flag(is bool) byte {
+	if is {
+		return 1
+	}
+	return 0
+}
+
+func TestTextsThatAreSignedStayAsTheyWere(t *testing.T) {
+	tree := impl.TreeKey{Seed: 3, Height: 2, Next: 1}
+	for _, row := range [][]byte{{}, {0}, []byte("hi"), bytes.Repeat([]byte{5}, 300)} {
+		sig, _ := impl.Sign(5, row)
+		treeSig, _, _ := impl.TreeSign(tree, row)
+		root, _ := impl.TreeRoot(tree)
+		bytesCall(t, "Challenge", row, func(b []byte) []byte { return impl.PutNum(impl.Challenge(4, 16, b)) })
+		bytesCall(t, "Sign", row, func(b []byte) []byte { s, _ := impl.Sign(5, b); return numbers(s.E, s.S) })
+		bytesCall(t, "Verify", row, func(b []byte) []byte { return []byte{flag(impl.Verify(1024, b, sig))} })
+		bytesCall(t, "BlindAsk", row, func(b []byte) []byte { ask, e, _ := impl.BlindAsk(1024, 16, b, 3, 4); return numbers(ask, e) })
+		bytesCall(t, "TreeSign", row, func(b []byte) []byte {
+			s, next, code := impl.TreeSign(tree, b)
+			return append(numbers(s.Leaf, next.Next, code), digestsAsBytes(append(s.Ends, s.Path...)...)...)
+		})
+		bytesCall(t, "TreeVerify", row, func(b []byte) []byte { return []byte{flag(impl.TreeVerify(root, 2, b, treeSig))} })
+		for _, s := range rightSecrets() {
+			p, _ := impl.PubOf(s)
+			bytesCall(t, "SignAny", row, func(b []byte) []byte { out, _, _ := impl.SignAny(s, b); return out })
+			bytesCall(t, "VerifyAny, the text", row, func(b []byte) []byte {
+				out, _, _ := impl.SignAny(s, row)
+				return []byte{flag(impl.VerifyAny(p, b, out))}
+			})
+			out, _, _ := impl.SignAny(s, row)
+			for _, given := range [][]byte{out, out[:len(out)-1], append(bytes.Clone(out), 0)} {
+				bytesCall(t, "VerifyAny, the signature", given, func(b []byte) []byte { return []byte{flag(impl.VerifyAny(p, row, b))} })
+			}
+		}
+	}
+}
+
+func TestNumbersOfSharesStayAsTheyWere(t *testing.T) {
+	for _, row := range [][]int64{{}, {3, 1, 2}, {2, 2}, {1, impl.Q}, oneTo(20), oneTo(21)} {
+		list, all := roomyList(row, -7)
+		before := slices.Clone(all)
+		calls := []struct {
+			name string
+			call func() []int64
+		}{
+			{"Deal", func() []int64 {
+				shares, ok := impl.Deal(5, list, 3)
+				out := []int64{int64(flag(ok))}
+				for i, s := range shares {
+					out = append(out, s.At, s.Value)
+					shares[i] = impl.Share{At: -9, Value: -9}
+				}
+				return out
+			}},
+			{"Lambda", func() []int64 { n, ok := impl.Lambda(list, 2); return []int64{n, int64(flag(ok))} }},
+			{"SignPart", func() []int64 {
+				n, ok := impl.SignPart(impl.Share{At: 2, Value: 8}, list, 10, 3)
+				return []int64{n, int64(flag(ok))}
+			}},
+			{"SignJoin", func() []int64 { s, ok := impl.SignJoin(list, 3); return []int64{s.E, s.S, int64(flag(ok))} }},
+		}
+		for _, call := range calls {
+			if first, second := call.call(), call.call(); !slices.Equal(first, second) {
+				t.Error(call.name, row, "answers unlike", first, second)
+			}
+			if !slices.Equal(all, before) {
+				t.Fatal(call.name, row, "changed its argument")
+			}
+		}
+	}
+}
+
+func TestSharesStayAsTheyWere(t *testing.T) {
+	dealt, _ := impl.Deal(5, []int64{7, 8}, 20)
+	for _, row := range [][]impl.Share{nil, dealt[3:6], {dealt[5], dealt[2], dealt[9]}, {dealt[1], dealt[1]}, {{At: 1, Value: impl.Q}}, dealt} {
+		list, all := roomyList(row, impl.Share{At: -7, Value: -7})
+		before := slices.Clone(all)
+		first, ok := impl.Restore(list)
+		second, again := impl.Restore(list)
+		if first != second || ok != again || !slices.Equal(all, before) {
+			t.Error("Restore", row, first, ok, second, again, "or it changed its argument")
+		}
+	}
+}
+
+func TestTreeSignaturesStayAsTheyWere(t *testing.T) {
+	k := impl.TreeKey{Seed: 3, Height: 3, Next: 5}
+	root, _ := impl.TreeRoot(k)
+	s, _, _ := impl.TreeSign(k, []byte("m"))
+	want := copyTreeSig(s)
+	ends, allEnds := roomyList(s.Ends, 77)
+	path, allPath := roomyList(s.Path, 77)
+	wasEnds, wasPath := slices.Clone(allEnds), slices.Clone(allPath)
+	for _, msg := range []string{"m", "n", "m"} {
+		if got := impl.TreeVerify(root, 3, []byte(msg), impl.TreeSig{Leaf: 5, Ends: ends, Path: path}); got != (msg == "m") {
+			t.Error("TreeVerify", msg, got)
+		}
+		if !slices.Equal(allEnds, wasEnds) || !slices.Equal(allPath, wasPath) {
+			t.Fatal("TreeVerify changed its argument")
+		}
+	}
+	for i := range s.Ends[:cap(s.Ends)] {
+		s.Ends[:cap(s.Ends)][i] = 1
+	}
+	if !slices.Equal(s.Path, want.Path) {
+		t.Error("TreeSign: its two lists share memory")
+	}
+	for i := range s.Path[:cap(s.Path)] {
+		s.Path[:cap(s.Path)][i] = 2
+	}
+	if slices.Contains(s.Ends, 2) {
+		t.Error("TreeSign: its two lists share memory")
+	}
+	if again, _, code := impl.TreeSign(k, []byte("m")); code != 0 || !sameTreeSig(again, want) {
+		t.Error("TreeSign answers memory that it keeps", again, code)
+	}
+}
+
+func TestNumbersOfTheGroupAreTheSameEachTime(t *testing.T) {
+	answers := func(n int64) []int64 {
+		power, powerOk := impl.PowMod(n, n, 1000)
+		inverse, inverseOk := impl.Inverse(n, 1000)
+		answer, answerOk := impl.BlindAnswer(n, 3, 4)
+		done, doneOk := impl.BlindDone(n, n, n)
+		root, rootOk := impl.TreeRoot(impl.TreeKey{Seed: uint64(n), Height: n})
+		p, pubOk := impl.PubOf(impl.Secret{Scheme: impl.ScGroup, X: uint64(n)})
+		oks := []bool{powerOk, inverseOk, answerOk, doneOk, rootOk, pubOk}
+		out := []int64{power, inverse, impl.KeyOf(n), answer, done.E, done.S, int64(root), int64(p.Y)}
+		for _, ok := range oks {
+			out = append(out, int64(flag(ok)))
+		}
+		return out
+	}
+	for _, n := range []int64{-1, 0, 1, 3, 7, 999, 1000, impl.Q} {
+		if first, second := answers(n), answers(n); !slices.Equal(first, second) {
+			t.Error(n, "answers unlike", first, second)
+		}
+	}
+}
