@@ -2,6 +2,8 @@ package tests
 
 import (
 	"bytes"
+	"math/rand"
+	"reflect"
 	"slices"
 	"testing"
 
@@ -791,4 +793,91 @@ func TestNumbersOfTheGroupAreTheSameEachTime(t *testing.T) {
 			t.Error(n, "answers unlike", first, second)
 		}
 	}
+}
+
+// Without this nobody would know whether stays can tell.
+func TestMemoryIsTold(t *testing.T) {
+	list := []byte{1, 2, 3, 4}
+	kept := []byte{1}
+	rows := []struct {
+		why  string
+		list []reflect.Value
+		want bool
+	}{
+		{"two lists", []reflect.Value{reflect.ValueOf([]byte{1}), reflect.ValueOf([]byte{1})}, true},
+		{"one list twice", []reflect.Value{reflect.ValueOf(list), reflect.ValueOf(list)}, false},
+		{"a list and the spare room of another", []reflect.Value{reflect.ValueOf(list[:2]), reflect.ValueOf(list[2:])}, false},
+		{"two parts, each without room", []reflect.Value{reflect.ValueOf(list[:2:2]), reflect.ValueOf(list[2:])}, true},
+		{"lists within", []reflect.Value{reflect.ValueOf(impl.Ext{Value: kept}), reflect.ValueOf([]impl.Ext{{Value: kept}})}, false},
+		{"empty lists", []reflect.Value{reflect.ValueOf([]byte{}), reflect.ValueOf([]byte{})}, true},
+	}
+	for _, row := range rows {
+		if got := allApart(memoryOfAll(row.list)); got != row.want {
+			t.Error(row.why, got)
+		}
+	}
+	c := roomyCopy(reflect.ValueOf(caCert()))
+	before := shown(c, true)
+	if shown(c, false) != shown(reflect.ValueOf(caCert()), false) || shown(c, false) == before {
+		t.Error("the copy is another, or has no room", before)
+	}
+	given := c.Interface().(impl.Cert)
+	for i, spoilt := range []func(){
+		func() { given.Names[:cap(given.Names)][4].Text = "x" },
+		func() { given.Exts[1].Value[0]++ },
+		func() { given.Exts[1].Value = append(given.Exts[1].Value, 1) },
+		func() { given.Issuer.Parts[1].Attr++ },
+	} {
+		spoilt()
+		if now := shown(c, true); now == before {
+			t.Error("spoilt, but unseen:", i)
+		} else {
+			before = now
+		}
+	}
+}
+
+func TestCertsStayAsTheyWere(t *testing.T) {
+	r := rand.New(rand.NewSource(99))
+	certs := []impl.Cert{endCert(), caCert(), greatCert(), {}, changed(caCert(), func(c *impl.Cert) { c.Serial = 0 })}
+	for range 20 {
+		certs = append(certs, anyCert(r))
+	}
+	secrets := []impl.Secret{{Scheme: impl.ScGroup, X: 5}, {Scheme: impl.ScTree, X: 7, Height: 1}, {Scheme: impl.ScTree, X: 7, Height: 1, Next: 2}, {}}
+	for _, c := range certs {
+		stays(t, impl.CertOk, c)
+		stays(t, impl.CertBody, c)
+		stays(t, impl.CertBytes, c)
+		stays(t, impl.Finger, c)
+		stays(t, impl.KeyId, c.Key)
+		stays(t, impl.ReadCert, slowCert(c))
+		stays(t, impl.ReadCert, slowCert(c)[1:])
+		for _, s := range secrets {
+			p, _ := impl.PubOf(s)
+			stays(t, impl.IssueCert, c, s)
+			issued, _, _ := impl.IssueCert(c, s)
+			stays(t, impl.CertSigned, issued, p)
+			stays(t, impl.CertSigned, c, p)
+			stays(t, impl.MakeReq, c.Subject, c.Names, s)
+			q, _, _ := impl.MakeReq(c.Subject, c.Names, s)
+			stays(t, impl.ReqOk, q)
+			stays(t, impl.ReqOk, impl.Req{Subject: c.Subject, Names: c.Names, Key: c.Key, Sig: c.Sig})
+		}
+	}
+}
+
+func TestCertsWhoseListsShareMemory(t *testing.T) {
+	name := partsOf("a", "b")
+	gens := []impl.GenName{{Kind: impl.GnName, Name: name}, {Kind: impl.GnName, Name: impl.Name{Parts: name.Parts[:1]}}}
+	value := []byte{1, 2}
+	c := caCert()
+	c.Issuer, c.Subject, c.Names, c.Permit, c.Deny, c.Sig = name, name, gens, gens, gens[:1], value
+	c.Exts = []impl.Ext{{Id: 1, Value: value}, {Id: 2, Value: value[:1]}}
+	s := impl.Secret{Scheme: impl.ScGroup, X: 5}
+	if got, _, code := impl.IssueCert(c, s); code != 0 || !impl.CertSigned(got, impl.Pub{Scheme: impl.ScGroup, Y: 1024}) {
+		t.Fatal("not issued", code)
+	}
+	staysWithTwins(t, impl.CertBytes, c)
+	staysWithTwins(t, impl.IssueCert, c, s)
+	staysWithTwins(t, impl.MakeReq, name, gens, s)
 }
