@@ -661,7 +661,7 @@ func TestIssueCertRefuses(t *testing.T) {
 		}
 	}
 	for _, s := range used {
-		if got, next, code := impl.IssueCert(caCert(), s); code != impl.TrEmpty || next != s || !noCert(got) {
+		if got, next, code := impl.IssueCert(caCert(), s); code != impl.TrEmpty || next != (impl.Secret{}) || !noCert(got) {
 			t.Error(s, "got", got, next, code)
 		}
 	}
@@ -679,8 +679,22 @@ func TestAnAuthorityIssuesUntilItsKeyIsUsedUp(t *testing.T) {
 		}
 		s = next
 	}
-	if _, next, code := impl.IssueCert(endCert(), s); code != impl.TrEmpty || next != s {
-		t.Error(next, code)
+	if got, next, code := impl.IssueCert(endCert(), s); code != impl.TrEmpty || next != (impl.Secret{}) || !noCert(got) {
+		t.Error(got, next, code)
+	}
+}
+
+func TestAnOwnerAsksUntilTheKeyIsUsedUp(t *testing.T) {
+	s := impl.Secret{Scheme: impl.ScTree, X: 3, Height: 2}
+	for i := range int64(4) {
+		q, next, code := impl.MakeReq(partsOf("a"), nil, s)
+		if code != 0 || next.Next != i+1 || !impl.ReqOk(q) {
+			t.Fatal(i, q, next, code)
+		}
+		s = next
+	}
+	if q, next, code := impl.MakeReq(partsOf("a"), nil, s); code != impl.TrEmpty || next != (impl.Secret{}) || !noReq(q) {
+		t.Error(q, next, code)
 	}
 }
 
@@ -891,15 +905,15 @@ func TestMakeReqRefuses(t *testing.T) {
 	used := []impl.Secret{{Scheme: impl.ScTree, X: 7, Next: 1}, {Scheme: impl.ScTree, X: 7, Height: 2, Next: 4}, {Scheme: impl.ScTree, Height: 5, Next: 32}}
 	for _, row := range ownerCases() {
 		for _, s := range append(wrongSecrets(), used...) {
-			code, told := int64(impl.TrKey), impl.Secret{}
+			code := int64(impl.TrKey)
 			if slices.Contains(used, s) {
-				code, told = impl.TrEmpty, s
+				code = impl.TrEmpty
 			}
 			if !row.want {
-				code, told = impl.CBad, impl.Secret{}
+				code = impl.CBad
 			}
-			if q, next, got := impl.MakeReq(row.subject, row.names, s); got != code || next != told || !noReq(q) {
-				t.Fatal(row.why, s, "got", q, next, got, "want", told, code)
+			if q, next, got := impl.MakeReq(row.subject, row.names, s); got != code || next != (impl.Secret{}) || !noReq(q) {
+				t.Fatal(row.why, s, "got", q, next, got, "want", code)
 			}
 		}
 	}
