@@ -881,3 +881,77 @@ func TestCertsWhoseListsShareMemory(t *testing.T) {
 	staysWithTwins(t, impl.IssueCert, c, s)
 	staysWithTwins(t, impl.MakeReq, name, gens, s)
 }
+
+func TestListsAndRepliesStayAsTheyWere(t *testing.T) {
+	r := rand.New(rand.NewSource(107))
+	lists := []impl.Crl{ownList(9, manyGone(1, 20)...), othersList(9, goneOf("x", 1, 7, 2), goneOf("y", 1, 7, 3)), {}, ownList(9, goneAt(0, 7, 2)), deltaOf(ownList(9, goneAt(1, 7, impl.RsOut)), 3)}
+	for range 60 {
+		lists = append(lists, anyList(r))
+	}
+	for _, l := range listsInARow(r, 8) {
+		lists = append(lists, l)
+	}
+	secrets := []impl.Secret{{Scheme: impl.ScGroup, X: 5}, {Scheme: impl.ScTree, X: 7, Height: 1}, {Scheme: impl.ScTree, X: 7, Height: 1, Next: 2}, {}}
+	for i, l := range lists {
+		stays(t, impl.CrlOk, l)
+		for _, s := range secrets {
+			p, _ := impl.PubOf(s)
+			stays(t, impl.SignCrl, l, s)
+			signed, _, _ := impl.SignCrl(l, s)
+			stays(t, impl.CrlSigned, signed, p)
+			stays(t, impl.CrlSigned, l, p)
+			nonce := someBytes(r, 17)
+			stays(t, impl.Answer, lists[:i%22], l.Issuer, int64(1), nonce, int64(25), int64(9), s)
+			reply, _, _ := impl.Answer(lists[:i%22], l.Issuer, 1, nonce, 25, 9, s)
+			stays(t, impl.ReplyCheck, reply, p, l.Issuer, int64(1), nonce, int64(25))
+		}
+		stays(t, impl.Standing, lists[:i%22], l.Issuer, int64(1), int64(25))
+		for _, other := range lists[i:min(i+3, len(lists))] {
+			stays(t, impl.MakeDelta, l, other)
+			stays(t, impl.ApplyDelta, l, other)
+			delta, _ := impl.MakeDelta(l, other)
+			stays(t, impl.ApplyDelta, l, delta)
+		}
+	}
+}
+
+func TestListsWhoseListsShareMemory(t *testing.T) {
+	name := partsOf("a", "b")
+	value := []byte{1, 2}
+	entries := []impl.Gone{{Issuer: name, Serial: 1, At: 1, Reason: 1}, {Issuer: name, Serial: 2, At: 1, Reason: 1}, {Issuer: impl.Name{Parts: name.Parts[:1]}, Serial: 1, At: 1, Reason: 1}}
+	old := impl.Crl{Issuer: name, Number: 1, Base: -1, At: 9, Next: 20, Scope: 126, Indirect: true, Entries: entries[:2], Sig: value}
+	now := old
+	now.Number, now.Entries = 2, entries[1:]
+	s := impl.Secret{Scheme: impl.ScGroup, X: 5}
+	delta, code := impl.MakeDelta(old, now)
+	if code != 0 || len(delta.Entries) != 2 {
+		t.Fatal("no delta", delta, code)
+	}
+	delta.Issuer, delta.Entries[0].Issuer = name, name
+	staysWithTwins(t, impl.SignCrl, old, s)
+	staysWithTwins(t, impl.MakeDelta, old, now)
+	staysWithTwins(t, impl.ApplyDelta, old, delta)
+	staysWithTwins(t, impl.Answer, []impl.Crl{old, now, old}, name, int64(1), value, int64(10), int64(5), s)
+}
+
+func TestCascadesStayAsTheyWere(t *testing.T) {
+	r := rand.New(rand.NewSource(117))
+	for _, count := range []int{0, 1, 2, 5, 40, 300, 301} {
+		list := unlikeDigests(r, 2*count)
+		stays(t, impl.Build, list[:count], list[count:])
+		stays(t, impl.Build, list[count:], list)
+		staysWithTwins(t, impl.Build, list[:count], list[count:])
+		c, _ := impl.Build(list[:count], list[count:])
+		stays(t, impl.CascadeBytes, c)
+		stays(t, impl.InCascade, c, uint64(count))
+		b, _ := impl.CascadeBytes(c)
+		stays(t, impl.ReadCascade, b)
+		stays(t, impl.ReadCascade, append(b, 1))
+	}
+	row := []byte{1, 0, 1, 1}
+	shared := cascadeOf(row, row[:2], row[1:])
+	staysWithTwins(t, impl.CascadeBytes, shared)
+	staysWithTwins(t, impl.InCascade, shared, uint64(9))
+	stays(t, impl.CascadeBytes, cascadeOf(row, nil))
+	stays(t, impl.CascadeBytes, cascadeOf(row, []byte{2}))
+}
