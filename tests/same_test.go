@@ -955,3 +955,35 @@ func TestCascadesStayAsTheyWere(t *testing.T) {
 	stays(t, impl.CascadeBytes, cascadeOf(row, nil))
 	stays(t, impl.CascadeBytes, cascadeOf(row, []byte{2}))
 }
+
+func TestPoliciesStayAsTheyWere(t *testing.T) {
+	r := rand.New(rand.NewSource(135))
+	wrong := [][]impl.PolCert{nil, {}, pathOf(says(1, 1)), pathOf(says(1), says(1001)), pathOf(withMaps(says(1), mapOf(0, 1))), slices.Repeat(pathOf(says(1)), 9)}
+	paths := append(wrong, pathOf(says(0), says(0, 4)), pathOf(withMaps(says(3, 1), mapOf(3, 2), mapOf(3, 1)), says(2, 1)))
+	for range 200 {
+		paths = append(paths, anyPolPath(r))
+	}
+	for _, path := range paths {
+		flags := [][3]bool{{}, {true}, {false, true}, {false, false, true}, {true, true, true}}
+		for _, on := range flags {
+			for _, p := range []int64{0, 1, 3, 1001} {
+				stays(t, impl.PolicyHolds, path, p, on[1], on[2])
+			}
+			for _, initial := range [][]int64{nil, {0}, {5, 3, 3, 1}, {1001}, anyAsked(r), anyAsked(r)} {
+				stays(t, impl.PathPolicies, path, initial, on[0], on[1], on[2])
+			}
+		}
+	}
+}
+
+func TestPoliciesWhoseListsShareMemory(t *testing.T) {
+	list := []int64{0, 7, 5, 3, 1}
+	maps := []impl.PolMap{{From: 7, To: 5}, {From: 7, To: 3}, {From: 3, To: 1}}
+	path := pathOf(withMaps(says(list...), maps...), withMaps(says(list[:2]...), maps[1:]...), withMaps(says(list[1:3]...), maps[:1]...), says(list...))
+	if got, ok := impl.PathPolicies(path, list, false, false, false); !ok || !slices.Equal(got, []int64{5, 7}) {
+		t.Fatal("got", got, ok)
+	}
+	staysWithTwins(t, impl.PolicyHolds, path, int64(7), false, false)
+	staysWithTwins(t, impl.PathPolicies, path, list, false, false, false)
+	staysWithTwins(t, impl.PathPolicies, path, list[1:], true, false, false)
+}
