@@ -987,3 +987,62 @@ func TestPoliciesWhoseListsShareMemory(t *testing.T) {
 	staysWithTwins(t, impl.PathPolicies, path, list, false, false, false)
 	staysWithTwins(t, impl.PathPolicies, path, list[1:], true, false, false)
 }
+
+func TestPathsStayAsTheyWere(t *testing.T) {
+	r := rand.New(rand.NewSource(136))
+	for range 150 {
+		w := anyTrail(r)
+		path := w.path()
+		stays(t, impl.AnchorOk, w.anchor)
+		stays(t, impl.AskOk, w.ask)
+		stays(t, impl.Check, path, w.anchor, w.ask)
+		stays(t, impl.FitsNames, w.anchor.Permit, w.anchor.Deny, path[len(path)-1])
+	}
+	wrong := plainTrail(2)
+	wrong.certs[1].Serial = 0
+	stays(t, impl.Check, wrong.path(), wrong.anchor, wrong.ask)
+	stays(t, impl.Check, []impl.Cert(nil), impl.Anchor{}, impl.Ask{})
+	stays(t, impl.FitsNames, gens(hostGen("*.a.b")), gens(impl.GenName{}), greatCert())
+	stays(t, impl.FitsNames, greatCert().Permit, greatCert().Deny, greatCert())
+	stays(t, impl.FitsNames, gens(hostGen("y")), gens(hostGen("z")), namedCert())
+	stays(t, impl.AnchorOk, impl.Anchor{})
+	stays(t, impl.AskOk, impl.Ask{})
+}
+
+func TestPathsThatAreFoundStayAsTheyWere(t *testing.T) {
+	r := rand.New(rand.NewSource(144))
+	for range 60 {
+		pool, anchors := anyPool(r, impl.MaxPool), anyAnchors(r, 6)
+		q := plainAsk()
+		q.Uses, q.Known, q.Lists = 0, []int64{4, 2}, []impl.Crl{speaking(partsOf("r"), goneAt(3, 5, 1)), othersList(1, goneOf("a", 4, 5, 2))}
+		stays(t, impl.Links, pool, anchors)
+		for target := int64(-1); target <= int64(len(pool)); target++ {
+			stays(t, impl.Find, pool, anchors, target, q)
+		}
+	}
+	stays(t, impl.Links, slices.Repeat(line(1), 15), theRoot())
+	stays(t, impl.Links, line(1), []impl.Anchor{{}})
+	stays(t, impl.Find, mesh(), theRoot(), int64(3), impl.Ask{})
+	stays(t, impl.Find, line(impl.MaxPath), theRoot(), int64(0), plainAsk())
+}
+
+func TestPathsWhoseListsShareMemory(t *testing.T) {
+	w := plainTrail(3)
+	names := gens(hostGen("a.x"), hostGen("b.x"), hostGen("x"))
+	w.anchor.Permit, w.anchor.Deny = names[2:], names[2:2]
+	w.ask.Policies, w.ask.Known = []int64{0, 5, 7}, []int64{0, 5, 7}
+	w.ask.Known = w.ask.Policies[1:]
+	path := w.path()
+	for i := range path {
+		path[i].Names, path[i].Policies = names[:2], w.ask.Policies
+		path[i] = signedWith(path[i], w.signer(i))
+	}
+	if code, at := impl.Check(path, w.anchor, w.ask); code != 0 || at != 0 {
+		t.Fatal(code, at)
+	}
+	anchors := []impl.Anchor{w.anchor, w.anchor}
+	staysWithTwins(t, impl.Check, path, w.anchor, w.ask)
+	staysWithTwins(t, impl.FitsNames, names, names, path[2])
+	staysWithTwins(t, impl.Links, slices.Concat(path, path), anchors)
+	staysWithTwins(t, impl.Find, slices.Concat(path, path), anchors, int64(2), w.ask)
+}

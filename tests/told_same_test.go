@@ -30,6 +30,7 @@ func issueSome(t *testing.T, r *rand.Rand, count int) issued {
 		c := endCert()
 		c.Issuer = oneOf(r, partsOf("An Authority"), partsOf("AN  authority"))
 		c.Serial, c.Subject = 1+(1<<62-1)/int64(count)*i, partsOf("subject "+strconv.FormatInt(i, 10))
+		c.To = toldAt
 		cert, _, code := impl.IssueCert(c, s)
 		if code != 0 {
 			t.Fatal("not issued", code)
@@ -83,6 +84,30 @@ func tellers(t *testing.T, r *rand.Rand, w issued) map[string][]impl.Crl {
 	return out
 }
 
+// pathsTellToo asks a path of one certificate, and a search for one, what lists say of it.
+func pathsTellToo(t *testing.T, why string, w issued, c impl.Cert, lists []impl.Crl, isGone bool) {
+	t.Helper()
+	a := impl.Anchor{Name: partsOf("an authority"), Key: w.pub, Until: impl.MaxTime}
+	q := impl.Ask{At: toldAt, Policies: []int64{0}, Lists: lists}
+	wantCode, wantFind := int64(0), int64(0)
+	if isGone {
+		wantCode, wantFind = impl.PcGone, impl.BdNone
+	}
+	for _, hard := range []bool{false, true} {
+		q.Hard = hard
+		if code, at := impl.Check([]impl.Cert{c}, a, q); code != wantCode || at != 0 {
+			t.Fatal(why, "a path says", code, at, "want", wantCode)
+		}
+		if _, _, code := impl.Find([]impl.Cert{c}, []impl.Anchor{a}, 0, q); code != wantFind {
+			t.Fatal(why, "a search says", code, "want", wantFind)
+		}
+	}
+	q.Lists = nil
+	if code, _ := impl.Check([]impl.Cert{c}, a, q); code != impl.PcUnknown {
+		t.Fatal("without lists it is", code)
+	}
+}
+
 func TestAllFormsTellTheSameCertificatesAsGone(t *testing.T) {
 	r := rand.New(rand.NewSource(121))
 	for _, count := range []int{0, 1, 2, 5, 20, 60, 60} {
@@ -113,6 +138,7 @@ func TestAllFormsTellTheSameCertificatesAsGone(t *testing.T) {
 				if code != 0 || reply.Stand != want || impl.ReplyCheck(reply, w.pub, c.Issuer, c.Serial, []byte{5}, toldAt) != 0 {
 					t.Fatal(why, "the answer says", reply, code, "want", want)
 				}
+				pathsTellToo(t, why, w, c, lists, isGone)
 				if impl.InCascade(cascade, impl.Finger(c)) != isGone || impl.InCascade(read, impl.Finger(c)) != isGone {
 					t.Fatal("the cascade says otherwise of", c)
 				}
