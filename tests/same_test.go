@@ -1046,3 +1046,99 @@ func TestPathsWhoseListsShareMemory(t *testing.T) {
 	staysWithTwins(t, impl.Links, slices.Concat(path, path), anchors)
 	staysWithTwins(t, impl.Find, slices.Concat(path, path), anchors, int64(2), w.ask)
 }
+
+func TestLogsStayAsTheyWere(t *testing.T) {
+	for _, n := range []int{0, 1, 2, 3, 5, 8, 21, 64, 200, 201} {
+		row, count := logRow(n), int64(n)
+		root, _ := impl.LogRoot(row)
+		stays(t, impl.EntryHash, digestsAsBytes(row...))
+		stays(t, impl.LogRoot, row)
+		for _, at := range []int64{-1, 0, 1, 2, 4, count - 1, count, count + 1} {
+			stays(t, impl.Include, row, at)
+			stays(t, impl.Extend, row, at)
+			included, _ := impl.Include(row, at)
+			stays(t, impl.CheckInclude, root, count, at, root, included)
+			if ok := within(at, 0, min(count, 200)-1); ok {
+				stays(t, impl.CheckInclude, root, count, at, row[at], included)
+			}
+			extended, _ := impl.Extend(row, at)
+			stays(t, impl.CheckExtend, root, at, root, count, extended)
+			if ok := within(at, 1, count); ok {
+				old, _ := impl.LogRoot(row[:at])
+				stays(t, impl.CheckExtend, old, at, root, count, extended)
+			}
+		}
+		for level := int64(-1); level <= 4; level++ {
+			for _, index := range []int64{-1, 0, 1, 12, 201} {
+				stays(t, impl.Tile, row, level, index)
+			}
+		}
+		stays(t, impl.Tiled, tilesOf(row, 0, 1, 2, 3), count)
+		stays(t, impl.Tiled, tilesOf(row, 1, 2, 3), count)
+	}
+	stays(t, impl.Tiled, []impl.TileOf{{Hashes: make([]uint64, 5)}}, int64(1))
+}
+
+func TestHeadsStayAsTheyWere(t *testing.T) {
+	for _, s := range append(headSecrets(), impl.Secret{}, usedUp(1)) {
+		p := pubOfSecret(s)
+		for _, n := range []int{0, 1, 5, 200, 201} {
+			stays(t, impl.SignHead, int64(1), logRow(n), int64(7), s)
+			stays(t, impl.SignHead, int64(0), logRow(n), int64(7), s)
+			h, _, _ := impl.SignHead(1, logRow(n), 7, s)
+			stays(t, impl.HeadSigned, h, p)
+			stays(t, impl.HeadSigned, h, pubNo(9))
+			stays(t, impl.Watch, impl.Watcher{Log: 1}, h, logRow(2), p, int64(9), s)
+			stays(t, impl.Forked, []impl.Head{h, signedHead(headOf(bentRow(max(n, 1), 0), 7), secretNo(0)), h}, p)
+		}
+	}
+	for _, row := range watchRows() {
+		x := changedWatching(row.change)
+		stays(t, impl.Watch, x.w, x.head, x.proof, x.log, x.at, x.s)
+	}
+	for _, row := range headCheckRows() {
+		c := changedChecking(row.change)
+		stays(t, impl.HeadCheck, c.head, c.log, c.cosigs, c.who, c.least, c.now, c.age)
+	}
+	fork := []impl.Head{signedHead(headOf(logRow(3), 5), secretNo(0)), signedHead(headOf(bentRow(3, 1), 5), secretNo(0))}
+	stays(t, impl.Forked, fork, pubNo(0))
+	stays(t, impl.Forked, make([]impl.Head, 21), pubNo(0))
+}
+
+func TestViewsStayAsTheyWere(t *testing.T) {
+	r := rand.New(rand.NewSource(168))
+	stays(t, impl.Views, []impl.ViewOp(nil))
+	stays(t, impl.Views, make([]impl.ViewOp, 101))
+	for range 300 {
+		var ops []impl.ViewOp
+		for range r.Intn(101) {
+			ops = append(ops, anyOp(r))
+		}
+		stays(t, impl.Views, ops)
+	}
+}
+
+func TestLogsWhoseListsShareMemory(t *testing.T) {
+	row := logRow(200)
+	tiles := []impl.TileOf{{Hashes: row[:4]}, {Index: 1, Hashes: row[2:4]}, {Level: 1, Hashes: row[:2]}}
+	for _, list := range [][]uint64{row[:1], row[:7], row[3:], row} {
+		staysWithTwins(t, impl.LogRoot, list)
+		staysWithTwins(t, impl.Include, list, int64(0))
+		staysWithTwins(t, impl.Extend, list, int64(1))
+		staysWithTwins(t, impl.Tile, list, int64(0), int64(0))
+		staysWithTwins(t, impl.CheckInclude, row[0], int64(8), int64(0), row[1], list)
+		staysWithTwins(t, impl.CheckExtend, row[0], int64(2), row[1], int64(8), list)
+		staysWithTwins(t, impl.SignHead, int64(1), list, int64(5), secretNo(0))
+	}
+	if _, taken := impl.Tiled(tiles, 6); taken != 3 {
+		t.Fatal("taken", taken)
+	}
+	staysWithTwins(t, impl.Tiled, tiles, int64(6))
+	c := plainChecking()
+	sig := c.cosigs[0].Sig
+	c.head.Sig, c.cosigs[2].Sig = sig, sig[:1]
+	staysWithTwins(t, impl.HeadCheck, c.head, c.log, append(c.cosigs, c.cosigs...), append(c.who, c.who...), c.least, c.now, c.age)
+	h := signedHead(headOf(row[:3], 5), secretNo(0))
+	staysWithTwins(t, impl.Forked, []impl.Head{h, h, {Log: 1, Size: 3, At: 5, Sig: h.Sig[:2]}}, pubNo(0))
+	staysWithTwins(t, impl.Watch, impl.Watcher{Log: 1, Size: 3, Root: h.Root}, h, row[:0], pubNo(0), int64(5), secretNo(1))
+}
