@@ -3,6 +3,7 @@ package tests
 import (
 	"bytes"
 	"math/rand"
+	"slices"
 
 	"loop.example/g00041/impl"
 )
@@ -106,6 +107,25 @@ func laxLength(r *rand.Rand, n int) []byte {
 	out := []byte{byte(128 + size)}
 	for i := size - 1; i >= 0; i-- {
 		out = append(out, byte(n>>(8*i)))
+	}
+	return out
+}
+
+// scrambled is b with a few bytes of it turned, left out or put in.
+func scrambled(r *rand.Rand, b []byte) []byte {
+	out := bytes.Clone(b)
+	for range 1 + r.Intn(3) {
+		at := r.Intn(len(out))
+		switch r.Intn(4) {
+		case 0:
+			out[at] = byte(r.Intn(256))
+		case 1:
+			out = slices.Delete(out, at, at+1)
+		case 2:
+			out = slices.Insert(out, at, oneOf[byte](r, 0, 1, 2, 4, 48, 49, 128, 255))
+		default:
+			out[at] = b[r.Intn(len(b))]
+		}
 	}
 	return out
 }

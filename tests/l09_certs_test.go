@@ -452,21 +452,7 @@ func TestAnyBytesAroundACert(t *testing.T) {
 		c := anyCert(r)
 		c.Sig = c.Sig[:min(4, len(c.Sig))]
 		b := slowCert(c)
-		other := bytes.Clone(b)
-		for range 1 + r.Intn(3) {
-			at := r.Intn(len(other))
-			switch r.Intn(4) {
-			case 0:
-				other[at] = byte(r.Intn(256))
-			case 1:
-				other = slices.Delete(other, at, at+1)
-			case 2:
-				other = slices.Insert(other, at, oneOf[byte](r, 0, 1, 2, 4, 48, 49, 128, 255))
-			default:
-				other[at] = b[r.Intn(len(b))]
-			}
-		}
-		if !bytes.Equal(other, b) {
+		if other := scrambled(r, b); !bytes.Equal(other, b) {
 			checkOther(t, c, other)
 		}
 	}

@@ -1142,3 +1142,141 @@ func TestLogsWhoseListsShareMemory(t *testing.T) {
 	staysWithTwins(t, impl.Forked, []impl.Head{h, h, {Log: 1, Size: 3, At: 5, Sig: h.Sig[:2]}}, pubNo(0))
 	staysWithTwins(t, impl.Watch, impl.Watcher{Log: 1, Size: 3, Root: h.Root}, h, row[:0], pubNo(0), int64(5), secretNo(1))
 }
+
+func TestMessagesStayAsTheyWere(t *testing.T) {
+	r := rand.New(rand.NewSource(178))
+	lists := [][]impl.Secret{nil, {secretNo(1)}, headSecrets(), {secretNo(1), {}}, {treeNo(1), usedUp(1)}, make([]impl.Secret, 7)}
+	for _, list := range lists {
+		for _, size := range []int{0, 1, 64, 4000, 4001} {
+			stays(t, impl.SignMsg, someText(size), int64(5), list)
+		}
+		stays(t, impl.SignMsg, someText(5), int64(-1), list)
+	}
+	msgs := []impl.Msg{plainMsg(), smallMsg(), {}, sizedMsg(20000), sizedMsg(20001)}
+	for _, row := range msgCases() {
+		msgs = append(msgs, changedMsg(plainMsg(), row.change))
+	}
+	for range 30 {
+		msgs = append(msgs, anySigned(r))
+	}
+	for _, m := range msgs {
+		for _, s := range []impl.Secret{secretNo(7), treeNo(7), usedUp(1), {}} {
+			for _, i := range []int64{-1, 0, 2, 6} {
+				stays(t, impl.CounterSign, m, i, int64(7), s)
+			}
+		}
+		stays(t, impl.MsgCheck, m, plainKeys(), int64(110))
+		stays(t, impl.MsgCheck, m, make([]impl.Pub, 21), int64(110))
+		stays(t, impl.MsgBytes, m)
+		stays(t, impl.ReadMsg, slowMsg(m))
+	}
+	for range 60 {
+		b := laxBytes(r, laxMsg(r, oneOf(r, msgs[:3]...)))
+		stays(t, impl.ReadMsg, b)
+		b[r.Intn(len(b))] ^= 1
+		stays(t, impl.ReadMsg, b)
+	}
+}
+
+func TestEnvelopesAndStoresStayAsTheyWere(t *testing.T) {
+	for _, size := range []int{0, 1, 8, 9, 4000, 4001} {
+		content := someText(size)
+		for _, count := range []int{0, 1, 3, 20, 21} {
+			stays(t, impl.SealMsg, content, openers(count), int64(77))
+			stays(t, impl.SealMsg, content, openers(count), int64(0))
+			e := slowSeal(content, openers(count), 77)
+			stays(t, impl.OpenMsg, e, secretOf(0))
+			stays(t, impl.OpenMsg, e, int64(0))
+			stays(t, impl.OpenMsg, changedEnvelope(e, func(e *impl.Envelope) { e.Tag++ }), secretOf(0))
+		}
+		for _, salt := range [][]byte{nil, {1, 2}, someText(17)} {
+			stays(t, impl.Lock, content, "word", salt, int64(3))
+			stays(t, impl.Lock, content, "word", salt, int64(0))
+			stays(t, impl.Unlock, slowLock(content, "word", salt, 3), "word")
+			stays(t, impl.Unlock, slowLock(content, "word", salt, 3), "Word")
+		}
+	}
+}
+
+func TestEvidenceStaysAsItWas(t *testing.T) {
+	r := rand.New(rand.NewSource(182))
+	for alg := range int64(11) {
+		stays(t, impl.DigestBy, alg, someText(70))
+		for _, s := range append(headSecrets(), impl.Secret{}, usedUp(1)) {
+			stays(t, impl.MakeStamp, alg, uint64(7), int64(9), s)
+			for _, count := range []int{1, 7, 8} {
+				stays(t, impl.Renew, []byte("doc"), plainProving(count).chain, alg, int64(1000), s)
+			}
+		}
+	}
+	stays(t, impl.Renew, someText(4001), []impl.Stamp(nil), int64(1), int64(5), secretNo(1))
+	for range 200 {
+		p := anyProving(r)
+		stays(t, impl.EvidenceCheck, p.doc, p.chain, p.keys, p.weak, p.now)
+		stays(t, impl.Renew, p.doc, p.chain, int64(3), int64(30), secretNo(1))
+	}
+	for _, b := range stampBreakers() {
+		p := changedProving(plainProving(3), func(p *proving) { b.spoil(p, 1) })
+		stays(t, impl.EvidenceCheck, p.doc, p.chain, p.keys, p.weak, p.now)
+	}
+}
+
+func TestMessagesWhoseListsShareMemory(t *testing.T) {
+	shared := someText(300)
+	signers := []impl.Signer{{Key: 1, At: 5, Sig: shared[:9]}, {Key: 2, At: 6, Sig: shared[3:20]}, {Key: 3, At: 7, Sig: shared[:9]}}
+	over := slices.Clone(signers)
+	signers[0].Over, signers[1].Over, signers[2].Over = over[:2], over[1:], over
+	m := impl.Msg{Content: shared, Signers: signers}
+	if _, _, code := impl.CounterSign(m, 0, 9, secretNo(1)); code != 0 {
+		t.Fatal("not so", code)
+	}
+	for i := range int64(3) {
+		staysWithTwins(t, impl.CounterSign, m, i, int64(9), secretNo(1))
+	}
+	staysWithTwins(t, impl.MsgCheck, m, plainKeys(), int64(9))
+	staysWithTwins(t, impl.MsgBytes, m)
+	staysWithTwins(t, impl.Lock, shared, "word", shared[:16], int64(3))
+	staysWithTwins(t, impl.Unlock, impl.Store{Salt: shared[:16], Rounds: 3, Body: shared}, "word")
+	chain := []impl.Stamp{{Alg: 1, At: 5, Sig: shared[:9]}, {Alg: 2, At: 6, Sig: shared[:9]}, {Alg: 1, At: 7, Sig: shared[5:]}}
+	if _, _, code := impl.Renew(shared, chain, 1, 9, secretNo(1)); code != 0 {
+		t.Fatal("not so", code)
+	}
+	staysWithTwins(t, impl.Renew, shared, chain, int64(1), int64(9), secretNo(1))
+	staysWithTwins(t, impl.Renew, shared, chain[:2], int64(1), int64(9), secretNo(1))
+	staysWithTwins(t, impl.EvidenceCheck, shared, chain, plainKeys(), []impl.Weak{{Alg: 1}}, int64(9))
+	good := renewedBy(secretNo(1), shared, renewedBy(secretNo(1), shared, nil, 1, 5), 2, 6)
+	staysWithTwins(t, impl.EvidenceCheck, shared, good, plainKeys(), []impl.Weak{{Alg: 3}}, int64(9))
+}
+
+// Behind these lists there is room for all that a call might put there.
+func TestMuchRoomBehindTheLists(t *testing.T) {
+	much := func(b []byte) []byte { return append(bytes.Clone(b), bytes.Repeat([]byte{170}, 6000)...)[:len(b)] }
+	m := changedMsg(plainMsg(), func(m *impl.Msg) {
+		m.Content = much(m.Content)
+		for i := range m.Signers {
+			m.Signers[i].Sig = much(m.Signers[i].Sig)
+		}
+	})
+	staysWithTwins(t, impl.SignMsg, m.Content, int64(5), headSecrets())
+	staysWithTwins(t, impl.CounterSign, m, int64(0), int64(130), treeNo(3))
+	staysWithTwins(t, impl.MsgCheck, m, plainKeys(), int64(130))
+	staysWithTwins(t, impl.MsgBytes, m)
+	staysWithTwins(t, impl.ReadMsg, much(slowMsg(m)))
+	e := slowSeal(m.Content, openers(3), 77)
+	e.Body = much(e.Body)
+	staysWithTwins(t, impl.SealMsg, m.Content, openers(3), int64(77))
+	staysWithTwins(t, impl.OpenMsg, e, secretOf(0))
+	store := slowLock(m.Content, "word", []byte{1, 2}, 3)
+	store.Salt, store.Body = much(store.Salt), much(store.Body)
+	staysWithTwins(t, impl.Lock, m.Content, "word", store.Salt, int64(3))
+	staysWithTwins(t, impl.Unlock, store, "word")
+	p := changedProving(plainProving(4), func(p *proving) {
+		p.doc = much(p.doc)
+		for i := range p.chain {
+			p.chain[i].Sig = much(p.chain[i].Sig)
+		}
+	})
+	staysWithTwins(t, impl.DigestBy, int64(1), p.doc)
+	staysWithTwins(t, impl.Renew, p.doc, p.chain, int64(1), p.now, treeNo(3))
+	staysWithTwins(t, impl.EvidenceCheck, p.doc, p.chain, p.keys, []impl.Weak{{Alg: 9}}, p.now)
+}
