@@ -1280,3 +1280,71 @@ func TestMuchRoomBehindTheLists(t *testing.T) {
 	staysWithTwins(t, impl.Renew, p.doc, p.chain, int64(1), p.now, treeNo(3))
 	staysWithTwins(t, impl.EvidenceCheck, p.doc, p.chain, p.keys, []impl.Weak{{Alg: 9}}, p.now)
 }
+
+func TestRulesStayAsTheyWere(t *testing.T) {
+	r := rand.New(rand.NewSource(198))
+	texts := []string{"", "x", "ca", "not ca or use server", "room", nestsIn(20, 5), nestsIn(21, 5), "ca" + string(bytes.Repeat([]byte{' '}, 399))}
+	certs := []impl.Cert{{}, endCert(), caCert(), greatCert(), judgedCert()}
+	for range 60 {
+		texts = append(texts, spread(r, anyTree(r, 3).words(r, 0)))
+		certs = append(certs, judgeable(r))
+	}
+	for i, text := range texts {
+		stays(t, impl.RuleShow, text)
+		for _, c := range []impl.Cert{certs[i%len(certs)], certs[(i+3)%len(certs)], {}} {
+			stays(t, impl.Judge, text, c)
+		}
+	}
+	for range 200 {
+		var rules []impl.LintRule
+		for range r.Intn(22) {
+			rules = append(rules, impl.LintRule{Id: r.Int63n(9), When: oneOf(r, "", "ca", anyTree(r, 1).told()), Must: oneOf(r, "not ca", anyTree(r, 2).told())})
+		}
+		stays(t, impl.Lint, rules, oneOf(r, certs...))
+	}
+	stays(t, impl.Lint, []impl.LintRule{{Id: 1, Must: "not ca"}, {Id: 2}}, caCert())
+	stays(t, impl.Lint, []impl.LintRule(nil), caCert())
+	shared := gens(hostGen("a.x"), hostGen("b.x"), hostGen("x"))
+	c := changed(judgedCert(), func(c *impl.Cert) { c.Names, c.Permit, c.Deny = shared[:2], shared[1:], shared })
+	twice := []impl.LintRule{{Id: 1, Must: "hosts a"}, {Id: 2, Must: "host x"}, {Id: 3, Must: "hosts b.x"}}
+	staysWithTwins(t, impl.Judge, "hosts a.x or hosts x", c)
+	staysWithTwins(t, impl.Lint, twice[:2], c)
+	staysWithTwins(t, impl.Lint, twice, c)
+}
+
+func TestEnrolmentsStayAsTheyWere(t *testing.T) {
+	r := rand.New(rand.NewSource(208))
+	for _, party := range []int64{-1, 0, 5, 1 << 62} {
+		for _, order := range []int64{-1, 0, 99, 1 << 62} {
+			stays(t, impl.TokenOf, party, order)
+		}
+	}
+	stays(t, impl.Enrol, []impl.Hold(nil), []impl.EnOp(nil))
+	stays(t, impl.Enrol, manyHolds(10), make([]impl.EnOp, 100))
+	stays(t, impl.Enrol, manyHolds(11), []impl.EnOp{tickBy(1)})
+	stays(t, impl.Enrol, []impl.Hold{{Host: "a"}, {Host: "a"}}, []impl.EnOp{tickBy(1)})
+	stays(t, impl.Enrol, manyHolds(1), make([]impl.EnOp, 101))
+	for range 300 {
+		holds, ops := anyDeeds(r, r.Intn(101))
+		stays(t, impl.Enrol, holds, ops)
+	}
+	holds, ops := anyDeeds(r, 100)
+	for _, count := range []int{0, 1, 50, 99} {
+		staysWithTwins(t, impl.Enrol, holds, ops[:count])
+		staysWithTwins(t, impl.Enrol, holds, ops[count:])
+	}
+}
+
+// Runs beside one another keep nothing of each other.
+func TestEnrolmentsKeepNothing(t *testing.T) {
+	r := rand.New(rand.NewSource(209))
+	holds, ops := anyDeeds(r, 100)
+	want, _ := impl.Enrol(holds, ops)
+	for range 200 {
+		otherHolds, otherOps := anyDeeds(r, 60)
+		impl.Enrol(otherHolds, otherOps)
+		if got, ok := impl.Enrol(holds, ops); !ok || !sameReport(got, want) {
+			t.Fatal(got, ok, want)
+		}
+	}
+}
