@@ -1348,3 +1348,95 @@ func TestEnrolmentsKeepNothing(t *testing.T) {
 		}
 	}
 }
+
+func TestCeremoniesStayAsTheyWere(t *testing.T) {
+	r := rand.New(rand.NewSource(218))
+	stays(t, impl.Ceremony, int64(5), []int64(nil), int64(1), []impl.CeOp(nil))
+	stays(t, impl.Ceremony, int64(0), []int64{1}, int64(2), []impl.CeOp{waiting(1)})
+	stays(t, impl.Ceremony, int64(5), manyNumbers(19, 3), int64(20), make([]impl.CeOp, 60))
+	stays(t, impl.Ceremony, int64(5), manyNumbers(20, 3), int64(20), make([]impl.CeOp, 61))
+	for range 300 {
+		d := anyDealing(r)
+		stays(t, impl.Ceremony, d.secret, d.more, d.n, anyCeOps(r, d, r.Intn(62)))
+	}
+	// Beginnings and pieces of one list of ops, whose Whats are pieces of one text.
+	d, what := dealt(2, 4), someText(100)
+	ops := []impl.CeOp{
+		{Kind: impl.CePropose, Who: 1, What: what[:50]}, {Kind: impl.CePropose, Who: 2, What: what[:50]}, {Kind: impl.CePropose, Who: 2, What: what[20:]},
+		consent(1, 0), consent(3, 2), consent(2, 0), consent(1, 2), consent(4, 1), consent(3, 1),
+	}
+	for count := range len(ops) + 1 {
+		staysWithTwins(t, impl.Ceremony, d.secret, d.more, d.n, ops[:count])
+		staysWithTwins(t, impl.Ceremony, d.secret, d.more, d.n, ops[count:])
+	}
+}
+
+func TestRollOverStaysAsItWas(t *testing.T) {
+	w := plainRolling()
+	long := partsOf("a", "b", "c", "d")
+	secrets := append(headSecrets(), usedUp(1), impl.Secret{}, secretNo(3))
+	for _, old := range secrets {
+		for _, now := range secrets {
+			for count := range 5 {
+				name := impl.Name{Parts: long.Parts[:count]}
+				stays(t, impl.RollOver, old, now, name, w.from, w.both, w.to, w.serial)
+				staysWithTwins(t, impl.RollOver, old, now, name, w.from, w.both, w.to, w.serial)
+			}
+		}
+	}
+	stays(t, impl.RollOver, w.old, w.now, w.name, w.both, w.from, w.to, w.serial)
+}
+
+func TestTrustStaysAsItWas(t *testing.T) {
+	for i, row := range fileCases() {
+		stays(t, impl.FileBody, row.file)
+		if i%5 == 0 {
+			stays(t, impl.SignFile, row.file, oneOf(rand.New(rand.NewSource(int64(i))), secretNo(1), treeNo(2), usedUp(1), impl.Secret{}))
+			s := plainState()
+			stays(t, impl.TrustStep, s, row.file, int64(100))
+			_, stamp, list := filesIn(s)
+			s.Root, s.Stamp, s.List = row.file.Root, stamp.Stamp, list.List
+			stays(t, impl.TrustStep, s, plainStampFile(), int64(100))
+			stays(t, impl.Trusted, s, uint64(9), int64(70), int64(100))
+		}
+	}
+	for kind := range int64(5) {
+		stays(t, impl.FileBody, badFile(kind))
+		stays(t, impl.SignFile, badFile(kind), secretNo(1))
+		stays(t, impl.TrustStep, plainState(), badFile(kind), int64(100))
+		bad := badFile(kind)
+		stays(t, impl.TrustStep, impl.TrustState{Root: bad.Root, Stamp: bad.Stamp, List: bad.List}, bad, int64(100))
+		stays(t, impl.Trusted, impl.TrustState{Root: bad.Root, Stamp: bad.Stamp, List: bad.List}, uint64(0), int64(0), int64(0))
+	}
+	for kind := int64(1); kind <= 3; kind++ {
+		for _, w := range []stepping{plainStepping(kind), plainStepping(kind).with(func(w *stepping) { w.by = nil })} {
+			s, f, now := w.args()
+			stays(t, impl.TrustStep, s, f, now)
+			stays(t, impl.SignFile, f, treeNo(1))
+			stays(t, impl.Trusted, s, uint64(9), int64(70), now)
+		}
+	}
+	stays(t, impl.TrustStep, impl.TrustState{}, impl.TrustFile{}, int64(0))
+}
+
+// The file is a piece of the state, and its lists share what they have.
+func TestTrustOfTwins(t *testing.T) {
+	s := plainState()
+	s.Root.Roles[1].Keys, s.Root.Roles[2].Keys = s.Root.Roles[0].Keys[:2], s.Root.Roles[0].Keys[1:]
+	s.Root.Roles[1].Need, s.Root.Roles[2].Need = 2, 2
+	next := impl.TrustFile{Kind: impl.TfRoot, Root: s.Root}
+	next.Root.Version++
+	next.Root.Sigs = []impl.FileSig{fileSigBy(next, keeper(1)), fileSigBy(next, keeper(3))}
+	s.Stamp.Sigs, s.List.Sigs, s.Root.Sigs = next.Root.Sigs[:1], next.Root.Sigs[1:], next.Root.Sigs
+	if got, code := impl.TrustStep(s, next, 100); code != 0 || got.Stamp.Version != 7 || got.List.Version != 3 {
+		t.Fatal("not so", got, code)
+	}
+	root, stamp, list := filesIn(s)
+	for _, f := range []impl.TrustFile{next, root, stamp, list} {
+		staysWithTwins(t, impl.TrustStep, s, f, int64(100))
+		staysWithTwins(t, impl.FileBody, f)
+		staysWithTwins(t, impl.SignFile, f, secretNo(1))
+		staysWithTwins(t, impl.SignFile, f, treeNo(1))
+	}
+	staysWithTwins(t, impl.Trusted, s, uint64(9), int64(70), int64(100))
+}
