@@ -5,6 +5,7 @@ import (
 	"math/rand"
 	"reflect"
 	"slices"
+	"strings"
 	"testing"
 
 	"loop.example/g00041/impl"
@@ -1439,4 +1440,66 @@ func TestTrustOfTwins(t *testing.T) {
 		staysWithTwins(t, impl.SignFile, f, treeNo(1))
 	}
 	staysWithTwins(t, impl.Trusted, s, uint64(9), int64(70), int64(100))
+}
+
+func TestAllowedStaysAsItWas(t *testing.T) {
+	r := rand.New(rand.NewSource(2303))
+	for i, row := range certCases() {
+		if i%4 == 0 {
+			stays(t, impl.Allowed, anyAllowRules(r, 6), row.c, int64(1+i%3))
+		}
+	}
+	name := nameGen("s", "t", "u")
+	base := name
+	base.Name.Parts = name.Name.Parts[:2]
+	c := allowedCert()
+	c.Names, c.Subject = gens(name, hostGen("a.b")), impl.Name{Parts: name.Name.Parts[:2]}
+	staysWithTwins(t, impl.Allowed, []impl.AllowRule{lets(base, 0)}, c, int64(1))
+	staysWithTwins(t, impl.Allowed, []impl.AllowRule{bars(name, 2), lets(base, 1)}, c, int64(1))
+	stays(t, impl.Allowed, []impl.AllowRule{}, impl.Cert{}, int64(0))
+}
+
+func TestMeetStaysAsItWas(t *testing.T) {
+	of := func(e encounter) []any { return []any{e.a, e.b, e.host, e.action, e.na, e.nb, e.now} }
+	tree := func(e *encounter) {
+		takeSecret(&e.a, clientKeys, treeNo(1))
+		takeSecret(&e.b, serverKeys, treeNo(2))
+	}
+	for _, e := range []encounter{plainEncounter(), stranger(), plainEncounter().with(tree), stranger().with(tree)} {
+		stays(t, impl.Meet, of(e)...)
+		// Both have the same nonce, out of one text.
+		text := someText(16)
+		e.na, e.nb = text[:8], text[:8]
+		staysWithTwins(t, impl.Meet, of(e)...)
+		e.nb = text[4:]
+		staysWithTwins(t, impl.Meet, of(e)...)
+	}
+	for _, b := range meetBreakers() {
+		stays(t, impl.Meet, of(plainEncounter().with(b.put))...)
+	}
+	stays(t, impl.Meet, impl.Side{}, impl.Side{}, "", int64(0), []byte{}, []byte{}, int64(0))
+}
+
+// Who meets itself has one path, one list of anchors, and one of rules, on both sides.
+func TestMeetOfOneSide(t *testing.T) {
+	e := plainEncounter()
+	takeSecret(&e.b, serverKeys, treeNo(3))
+	remade(&e.b, serverKeys, func(c *impl.Cert) { c.Uses = 255 })
+	e.b.Anchors, e.b.Rules = []impl.Anchor{rootOf(serverKeys)}, []impl.AllowRule{lets(hostGen("y"), 0)}
+	e.a = e.b
+	got := wantMet(t, "itself", e, 0)
+	if toldOf(got.SigA) != toldOf(got.SigB) {
+		t.Error("one secret signs twice as it was")
+	}
+	staysWithTwins(t, impl.Meet, e.a, e.b, e.host, e.action, e.na, e.nb, e.now)
+}
+
+func TestRunScriptStaysAsItWas(t *testing.T) {
+	r := rand.New(rand.NewSource(2403))
+	for range 50 {
+		stays(t, impl.RunScript, strings.Join(anyScript(r), "\n")+"\n")
+	}
+	for _, text := range []string{"", "x", "\n", "key k 5\n", strings.Repeat("tick 1\n", 61)} {
+		stays(t, impl.RunScript, text)
+	}
 }
